@@ -1,0 +1,1 @@
+"""Satisfiability and subsumption of concepts: see conceptaxioms.models.answers."""
