@@ -5,8 +5,16 @@ bit n is 1 if kind n belongs to it: so a concept becomes the group of the kinds 
 holds, and the constructs between concepts become the operators between bits.
 """
 
-from conceptaxioms.concepts import TOP, BOTTOM, BOTH, EITHER, WITHOUT, SOME, ONLY, PARTS
+from conceptaxioms.concepts import TOP, BOTTOM, NAME, BOTH, EITHER, WITHOUT, SOME, ONLY, PARTS
 from conceptaxioms.concepts import atoms_of, concept_at, part_starts
+
+
+def first_kind(group):
+    """Return the first kind of a group that is not empty."""
+    kind = 0
+    while ((group >> kind) & 1) == 0:
+        kind += 1
+    return kind
 
 
 class Restriction:
@@ -76,6 +84,14 @@ class Kinds:
             return self.every ^ inner[0]
         return self.having_atom(self.atoms.index(concept))
 
+    def names_of(self, kind):
+        """Return the names that an element of the kind has, as the sum of 2^a for each name a."""
+        told = 0
+        for place, atom in enumerate(self.atoms):
+            if atom[0] == NAME and ((kind >> place) & 1) == 1:
+                told += 1 << atom[1]
+        return told
+
     def having_atom(self, place):
         """Return the group of the kinds in which the atom at this place holds."""
         group = 0
@@ -93,11 +109,12 @@ class Kinds:
         return group
 
     def needs_of(self, kind):
-        """Return, for each demand of the kind, the group of the kinds that support it."""
+        """Return, for each demand of the kind, its role and the group that supports it."""
         needs = []
         for restriction in self.restrictions:
             if restriction.demands(kind):
-                needs.append(self.permitted(kind, restriction.role) & restriction.wanted)
+                group = self.permitted(kind, restriction.role) & restriction.wanted
+                needs.append((restriction.role, group))
         return needs
 
     def obeying(self, axioms):
@@ -111,7 +128,7 @@ class Kinds:
         """Return those kinds of the group whose demands are all supported within the group."""
         kept = 0
         for kind in range(self.total):
-            met = all([(need & group) != 0 for need in self.needs[kind]])
+            met = all([(need & group) != 0 for role, need in self.needs[kind]])
             if ((group >> kind) & 1) == 1 and met:
                 kept |= 1 << kind
         return kept

@@ -1,13 +1,17 @@
 """The interface: a list of calls is read, and their answers are told in one list."""
 
 from conceptaxioms.concepts import NotConcepts
-from conceptaxioms.session import NoSuchAxiom, Session, TooMany
+from conceptaxioms.session import NoModel, NoSuchAxiom, Session, TooMany
 
 BEGINS = 0
 LINE = 1
 DROP = 2
 CAN = 3
 UNDER = 4
+MODEL = 5
+AGAINST = 6
+NAMES = 7
+SPARE = 8
 
 
 class UnknownCall(ValueError):
@@ -30,11 +34,11 @@ def answers(calls):
 
 def call_end(calls, start):
     """Return the place just behind the call that begins at start."""
-    if calls[start] == BEGINS:
+    if calls[start] in (BEGINS, NAMES, SPARE):
         return start + 1
     if calls[start] == DROP:
         return start + 2
-    if calls[start] in (LINE, CAN, UNDER):
+    if calls[start] in (LINE, CAN, UNDER, MODEL, AGAINST):
         return start + 2 + calls[start + 1]
     raise UnknownCall("no call has this number")
 
@@ -47,6 +51,8 @@ def answer_or_code(session, call):
         return [-1]
     except NoSuchAxiom:
         return [-2]
+    except NoModel:
+        return [-6]
     except TooMany:
         return [-7]
 
@@ -57,10 +63,21 @@ def answer_of(session, call):
         return session.begins()
     if call[0] == DROP:
         return session.drop(call[1])
-    # The other calls have one row: their number and the row's length stand ahead of it.
-    row = call[2:]
-    if call[0] == LINE:
+    if call[0] == NAMES:
+        return session.names()
+    if call[0] == SPARE:
+        return session.spare()
+    return answer_to_row(session, call[0], call[2:])
+
+
+def answer_to_row(session, number, row):
+    """Carry out the call with this number and row, and return what it answers."""
+    if number == LINE:
         return session.line(row)
-    if call[0] == CAN:
+    if number == CAN:
         return session.can(row)
-    return session.under(row)
+    if number == UNDER:
+        return session.under(row)
+    if number == MODEL:
+        return session.model(row)
+    return session.against(row)

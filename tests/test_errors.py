@@ -1,13 +1,10 @@
-"""The errors -1, -2 and -7, their edges and order, and point 9: a refused call changes nothing."""
+"""The errors -1, -2 and -7, their edges and order, with -6 behind them."""
 
 import unittest
 
-from tests.helper import A, B, BOTTOM, C, D, LARGEST, TOP
-from tests.helper import ask, ask_last, begins, both, can, drop, either, line, non, only, some, under
-
-# Four names and two restrictions: just as many atoms as are allowed.
-SIX_ATOMS = both(both(A, B), both(both(C, D), both(some(0, A), some(1, A))))
-SEVEN_ATOMS = both(SIX_ATOMS, only(0, A))
+from tests.helper import A, B, BOTTOM, C, D, LARGEST, SEVEN_ATOMS, SIX_ATOMS, TOP, against, ask
+from tests.helper import ask_last, ask_whole, both, can, drop, either, line, model, non, only, some
+from tests.helper import under
 
 # What is wrong wherever one concept is to stand.
 NOT_A_CONCEPT = [
@@ -26,70 +23,77 @@ NOT_A_CONCEPT = [
 
 class NotOneConcept(unittest.TestCase):
 
+    def check(self, *concepts):
+        """Check that can and model refuse these alike."""
+        self.assertEqual(ask(can(*concepts), model(*concepts)), [-1, -1], concepts)
+
     def test_empty(self):
-        self.assertEqual(ask(can()), [-1])
+        self.check()
 
     def test_no_concept(self):
         for numbers in NOT_A_CONCEPT:
-            self.assertEqual(ask(can(numbers)), [-1], numbers)
+            self.check(numbers)
 
     def test_one_number_too_many(self):
         for concept in (TOP, BOTTOM, A, non(A), both(A, B), either(A, TOP), some(0, A), only(1, B)):
             for extra in (0, 1, 2, 8, LARGEST):
-                self.assertEqual(ask(can(concept, [extra])), [-1], (concept, extra))
+                self.check(concept, [extra])
 
     def test_one_number_too_few(self):
         for concept in (A, non(A), both(A, B), either(A, TOP), some(0, A), only(1, B), SIX_ATOMS):
             self.assertEqual(ask(can(concept)), [1], concept)
-            self.assertEqual(ask(can(concept[:-1])), [-1], concept)
+            self.assertGreater(ask_whole(model(concept))[0][0], 0, concept)
+            self.check(concept[:-1])
 
     def test_two_and_three_concepts(self):
-        self.assertEqual(ask(can(A, B)), [-1])
-        self.assertEqual(ask(can(TOP, TOP)), [-1])
-        self.assertEqual(ask(can(A, B, C)), [-1])
+        self.check(A, B)
+        self.check(TOP, TOP)
+        self.check(A, B, C)
 
     def test_last_names_and_roles_are_allowed(self):
         self.assertEqual(ask(can([2, 3]), can([6, 1, 0]), can([7, 1, 1])), [1, 1, 1])
+        told = ask_whole(model([2, 3]), model([6, 1, 0]), model([7, 1, 1]))
+        self.assertEqual(told, [[1, 8, 0], [2, 0, 1, 1, 1, 0, 0], [1, 0, 0]])
 
 
 class NotTwoConcepts(unittest.TestCase):
 
-    def both_calls(self, *concepts):
-        """Return the answer of line and under, which are to be refused alike."""
-        told = ask(line(*concepts), under(*concepts))
-        self.assertEqual(told[0], told[1], concepts)
+    def refusal(self, *concepts):
+        """Return the answer of line, under and against, which are to be refused alike."""
+        told = ask(line(*concepts), under(*concepts), against(*concepts))
+        self.assertEqual(told, [told[0]] * 3, concepts)
         return told[0]
 
     def test_empty(self):
-        self.assertEqual(self.both_calls(), -1)
+        self.assertEqual(self.refusal(), -1)
 
     def test_one_concept(self):
         for concept in (TOP, BOTTOM, A, non(A), both(A, B), either(A, B), some(0, A), only(1, B)):
-            self.assertEqual(self.both_calls(concept), -1)
+            self.assertEqual(self.refusal(concept), -1)
 
     def test_three_concepts(self):
-        self.assertEqual(self.both_calls(A, B, C), -1)
-        self.assertEqual(self.both_calls(TOP, TOP, TOP), -1)
-        self.assertEqual(self.both_calls(A, B, TOP), -1)
+        self.assertEqual(self.refusal(A, B, C), -1)
+        self.assertEqual(self.refusal(TOP, TOP, TOP), -1)
+        self.assertEqual(self.refusal(A, B, TOP), -1)
 
     def test_wrong_first_or_second_concept(self):
         for numbers in NOT_A_CONCEPT:
-            self.assertEqual(self.both_calls(A, numbers), -1)
-            self.assertEqual(self.both_calls(numbers), -1)
+            self.assertEqual(self.refusal(A, numbers), -1)
+            self.assertEqual(self.refusal(numbers), -1)
 
     def test_wrong_first_concept_with_a_second(self):
         for numbers in ([2, 4], [6, 2, 0], [7, 2, 0], [8], [LARGEST], [5, 2, 4], [6, 0, 8]):
-            self.assertEqual(self.both_calls(numbers, A), -1)
+            self.assertEqual(self.refusal(numbers, A), -1)
 
     def test_one_number_too_few(self):
         for second in (A, non(A), both(A, B), either(A, TOP), some(0, A), only(1, B)):
             self.assertIn(ask_last(under(A, second)), (0, 1))
-            self.assertEqual(self.both_calls(A, second[:-1]), -1)
+            self.assertEqual(self.refusal(A, second[:-1]), -1)
 
     def test_one_number_too_many(self):
         for extra in (0, 1, 2, 7, 8, LARGEST):
-            self.assertEqual(self.both_calls(A, B, [extra]), -1)
-            self.assertEqual(self.both_calls(some(0, A), both(A, B), [extra]), -1)
+            self.assertEqual(self.refusal(A, B, [extra]), -1)
+            self.assertEqual(self.refusal(some(0, A), both(A, B), [extra]), -1)
 
 
 class TooManyAxioms(unittest.TestCase):
@@ -129,6 +133,25 @@ class TooManyAtoms(unittest.TestCase):
         told = ask(under(SIX_ATOMS, A), under(A, SIX_ATOMS), under(SIX_ATOMS, only(0, A)))
         self.assertEqual(told, [1, 0, -7])
         self.assertEqual(ask(under(SEVEN_ATOMS, A), under(A, SEVEN_ATOMS)), [-7, -7])
+
+    def test_model(self):
+        told = ask_whole(model(SIX_ATOMS), model(SEVEN_ATOMS))
+        self.assertGreater(told[0][0], 1)
+        self.assertEqual(told[1], [-7])
+
+    def test_against(self):
+        told = ask_whole(against(SIX_ATOMS, non(A)), against(BOTTOM, SIX_ATOMS),
+                         against(SIX_ATOMS, only(0, A)), against(only(0, A), SIX_ATOMS))
+        self.assertGreater(told[0][0], 1)
+        self.assertEqual(told[1:], [[-6], [-7], [-7]])
+        self.assertEqual(ask(against(SEVEN_ATOMS, A), against(A, SEVEN_ATOMS)), [-7, -7])
+
+    def test_model_and_against_with_axioms(self):
+        axioms = [line(both(A, B), both(C, D)), line(some(0, A), TOP)]
+        two = both(only(0, A), only(1, A))
+        told = ask_whole(*axioms, model(only(0, A)), model(two), against(only(1, A), some(0, A)),
+                         against(only(1, A), only(0, A)), drop(1), model(two), against(two, A))
+        self.assertEqual([answer[0] for answer in told], [0, 1, 1, -7, 1, -7, 1, 1, 1])
 
     def test_axioms_count(self):
         axiom = line(both(A, B), both(C, D))
@@ -210,6 +233,25 @@ class TooManyAtoms(unittest.TestCase):
         self.assertEqual(ask(line(SEVEN_ATOMS, [8]), under(SEVEN_ATOMS, [8])), [-1, -1])
         self.assertEqual(ask(line(SEVEN_ATOMS, A, B), under(SEVEN_ATOMS, A, B)), [-1, -1])
         self.assertEqual(ask(line(SIX_ATOMS, A), can(only(0, A), [2])), [0, -1])
+        self.assertEqual(ask(model(SEVEN_ATOMS, [0]), model(SEVEN_ATOMS[:-1])), [-1, -1])
+        self.assertEqual(ask(model(SEVEN_ATOMS[:-1] + [4]), model(SEVEN_ATOMS, A)), [-1, -1])
+        self.assertEqual(ask(against(SEVEN_ATOMS), against(SEVEN_ATOMS, [8])), [-1, -1])
+        self.assertEqual(ask(against(SEVEN_ATOMS, A, B), against(SEVEN_ATOMS, [2])), [-1, -1])
+
+    def test_no_model_comes_last(self):
+        never = both(BOTTOM, SEVEN_ATOMS)
+        self.assertEqual(ask(model(never), model(both(BOTTOM, SIX_ATOMS))), [-7, -6])
+        self.assertEqual(ask(against(never, A), against(A, either(TOP, SEVEN_ATOMS))), [-7, -7])
+        self.assertEqual(ask(against(BOTTOM, SIX_ATOMS), against(A, either(TOP, SIX_ATOMS))), [-6, -6])
+        none = line(TOP, BOTTOM)
+        self.assertEqual(ask(none, model(SEVEN_ATOMS), model(SIX_ATOMS), model([3] + A)), [0, -7, -6, -1])
+        self.assertEqual(ask(none, against(SEVEN_ATOMS, A), against(SIX_ATOMS, A), against(A)),
+                         [0, -7, -6, -1])
+        self.assertEqual(ask(none, model(), model(BOTTOM, [8]), against(), against(BOTTOM, TOP, TOP)),
+                         [0, -1, -1, -1, -1])
+        full = line(both(SIX_ATOMS, BOTTOM), A)
+        self.assertEqual(ask(full, model(both(BOTTOM, only(0, A))), model(BOTTOM), model(BOTTOM, A)),
+                         [0, -7, -6, -1])
 
 
 class NoSuchAxiom(unittest.TestCase):
@@ -257,57 +299,6 @@ class Drop(unittest.TestCase):
         told = ask(line(A, B), line(B, C), drop(0), line(C, D), under(B, D), under(A, B), drop(1),
                    under(C, D), under(B, C))
         self.assertEqual(told, [0, 1, 1, 1, 1, 0, 1, 0, 1])
-
-
-class RefusedChangesNothing(unittest.TestCase):
-    """Point 9."""
-
-    BEHIND = [
-        can(both(A, non(B))), under(A, some(0, B)), under(B, A), can(SIX_ATOMS),
-        line(B, C), under(A, C), drop(0), under(A, B), under(B, C), drop(1), line(C, D), under(B, D),
-    ]
-
-    def check(self, ahead, refused, code):
-        """Compare what the calls behind answer with and without the refused call."""
-        without = ask(*ahead, *self.BEHIND)
-        told = ask(*ahead, refused, *self.BEHIND)
-        place = len(ahead)
-        self.assertEqual(told[place], code, refused)
-        self.assertEqual(told[:place] + told[place + 1:], without, refused)
-
-    def check_everywhere(self, refused, code):
-        self.check([], refused, code)
-        self.check([line(A, B)], refused, code)
-        self.check([line(A, B), line(B, some(0, B)), line(D, non(A))], refused, code)
-
-    def test_wrong_numbers(self):
-        for numbers in ([], [2, 0], [2, 0, 2], [2, 0, 2, 4], [2, 0, 2, 1, 2, 2], [8, 0], [6, 2, 0, 0]):
-            self.check_everywhere(line(numbers), -1)
-            self.check_everywhere(under(numbers), -1)
-        for numbers in ([], [2], [2, 4], [2, 0, 0], [8], [3, 2, 0], [7, 2, 2, 0]):
-            self.check_everywhere(can(numbers), -1)
-
-    def test_no_such_axiom(self):
-        self.check([], drop(0), -2)
-        self.check([line(A, B)], drop(1), -2)
-        self.check([line(A, B), line(B, some(0, B))], drop(2), -2)
-        self.check_everywhere(drop(LARGEST), -2)
-
-    def test_too_many_atoms(self):
-        self.check_everywhere(line(SEVEN_ATOMS, BOTTOM), -7)
-        self.check_everywhere(line(TOP, SEVEN_ATOMS), -7)
-        self.check_everywhere(can(SEVEN_ATOMS), -7)
-        self.check_everywhere(under(SEVEN_ATOMS, BOTTOM), -7)
-
-    def test_too_many_axioms(self):
-        full = [line(A, B), line(TOP, TOP), line(B, B), line(C, C), line(A, A), line(B, some(0, B))]
-        self.check(full, line(TOP, BOTTOM), -7)
-        self.check(full, line(A, BOTTOM), -7)
-
-    def test_several_refusals_together(self):
-        told = ask(line(A, B), drop(1), line(B), can([]), line(SEVEN_ATOMS, A), under(A, B),
-                   drop(5), line(B, C), begins(), drop(0), line(A, B))
-        self.assertEqual(told, [0, -2, -1, -1, -7, 1, -2, 1, 0, -2, 0])
 
 
 if __name__ == "__main__":

@@ -1,4 +1,4 @@
-"""Points 1 and 3 against all models of few elements, looked through one by one.
+"""Points 1 to 4 against all models of few elements, looked through one by one.
 
 A concept that has an element in such a model must be possible. For the concepts here the
 reverse holds, too: what has an element in any model has one in such a small one.
@@ -7,47 +7,20 @@ reverse holds, too: what has an element in any model has one in such a small one
 import itertools
 import unittest
 
-from tests.helper import A, BOTTOM, TOP, ask_all, both, can, either, non, only, some, under
+from tests.helper import A, BOTTOM, TOP, against, ask_all, ask_all_whole, both, can, either
+from tests.helper import having, holds, model, names, non, only, read_model, some, under
 
 
 def models_of(size):
-    """Return all models of this size over name 0 and role 0, as (with the name, relations)."""
+    """Return all models of this size over name 0 and role 0, as lists of their elements."""
     places = range(size)
     found = []
-    for named in itertools.product((False, True), repeat=size):
+    for named in itertools.product((0, 1), repeat=size):
         for related in itertools.product((False, True), repeat=size * size):
             rows = [related[place * size:(place + 1) * size] for place in places]
-            found.append((named, rows))
+            relations = [[(0, other) for other in places if row[other]] for row in rows]
+            found.append(list(zip(named, relations)))
     return found
-
-
-def having(concept, model):
-    """Return for each element whether it has the concept, and the concept's length."""
-    named, rows = model
-    size = len(named)
-    first = concept[0]
-    if first in (0, 1):
-        return [first == 0] * size, 1
-    if first == 2:
-        return list(named), 2
-    if first == 5:
-        one, length = having(concept[1:], model)
-        return [not has for has in one], length + 1
-    if first in (3, 4):
-        one, length = having(concept[1:], model)
-        other, more = having(concept[1 + length:], model)
-        pick = all if first == 3 else any
-        return [pick(pair) for pair in zip(one, other)], 1 + length + more
-    inner, length = having(concept[2:], model)
-    pick = any if first == 6 else all
-    told = [pick(has for has, to in zip(inner, row) if to) for row in rows]
-    return told, length + 2
-
-
-def holds(axiom, model):
-    first, length = having(axiom[0], model)
-    second, length = having(axiom[1], model)
-    return all(after for before, after in zip(first, second) if before)
 
 
 def concepts_up_to(length):
@@ -86,7 +59,7 @@ class SmallModels(unittest.TestCase):
     MODELS = models_of(1) + models_of(2)
 
     def obeying(self, axioms):
-        return [model for model in self.MODELS if all(holds(axiom, model) for axiom in axioms)]
+        return [one for one in self.MODELS if all(holds(axiom, one) for axiom in axioms)]
 
     def test_can(self):
         concepts = concepts_up_to(5)
@@ -94,7 +67,7 @@ class SmallModels(unittest.TestCase):
             models = self.obeying(axioms)
             told = ask_all(axioms, [can(concept) for concept in concepts])
             for concept, answer in zip(concepts, told):
-                found = any(any(having(concept, model)[0]) for model in models)
+                found = any(any(having(concept, one)) for one in models)
                 self.assertEqual(answer, int(found), (axioms, concept))
 
     def test_under(self):
@@ -104,8 +77,46 @@ class SmallModels(unittest.TestCase):
             models = self.obeying(axioms)
             told = ask_all(axioms, [under(*pair) for pair in pairs])
             for pair, answer in zip(pairs, told):
-                kept = all(holds(pair, model) for model in models)
+                kept = all(holds(pair, one) for one in models)
                 self.assertEqual(answer, int(kept), (axioms, pair))
+
+    def check_model(self, answer, axioms, concept, models):
+        """Check that the answer tells a model of the concept, or that there is none."""
+        if not any(any(having(concept, one)) for one in models):
+            self.assertEqual(answer, [-6], (axioms, concept))
+            return
+        elements = read_model(answer)
+        self.assertTrue(having(concept, elements)[0], (axioms, concept, answer))
+        for axiom in axioms:
+            self.assertTrue(holds(axiom, elements), (axiom, concept, answer))
+
+    def test_model(self):
+        concepts = concepts_up_to(5)
+        for axioms in AXIOMS:
+            models = self.obeying(axioms)
+            told = ask_all_whole(axioms, [model(concept) for concept in concepts])
+            for concept, answer in zip(concepts, told):
+                self.check_model(answer, axioms, concept, models)
+
+    def test_against(self):
+        concepts = concepts_up_to(4)
+        pairs = list(itertools.product(concepts, repeat=2))[::7]
+        for axioms in AXIOMS:
+            models = self.obeying(axioms)
+            told = ask_all_whole(axioms, [against(*pair) for pair in pairs])
+            for (first, second), answer in zip(pairs, told):
+                self.check_model(answer, axioms, both(first, non(second)), models)
+
+    def test_names(self):
+        for axioms in AXIOMS:
+            models = self.obeying(axioms)
+            told, = ask_all_whole(axioms, [names()])
+            self.assertEqual(told[0], int(len(models) > 0), axioms)
+            # Name 0 is the only one of the axioms, so the others are free.
+            never = int(not any(any(having(A, one)) for one in models))
+            always = int(all(all(having(A, one)) for one in models))
+            self.assertEqual(told[1:5], [1] + [never] * 3, axioms)
+            self.assertEqual(told[1::4], [1] + [always] * 3, axioms)
 
 
 if __name__ == "__main__":
